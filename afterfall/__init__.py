@@ -1,0 +1,1 @@
+"""Afterfall: what a store can hold after a fall."""
