@@ -118,11 +118,10 @@ def sure_in(plan, claims, epoch):
 
 def misplaced_in(plan, claims, epoch):
     """Return why claims let no fall be in an epoch, as an entry of a paper ([13]), or None."""
-    _, gone, _ = claims
     for piece in claimed_there(claims):
         if plan.epoch_of(piece) > epoch:
             return ("there", piece)
-    for piece in gone:
+    for piece in claims[1]:
         if plan.epoch_of(piece) < epoch:
             return ("gone", piece)
     return None

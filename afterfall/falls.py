@@ -9,9 +9,9 @@ from afterfall.plans import piece_epochs
 def is_fall(plan, thing):
     """Return whether a thing is a fall of a plan."""
     epochs = piece_epochs(plan)
-    if not isinstance(thing, list) or len(thing) > len(epochs):
+    if not isinstance(thing, list) or not all([is_index(piece, len(epochs)) for piece in thing]):
         return False
-    if not all([is_index(piece, len(epochs)) for piece in thing]) or len(set(thing)) < len(thing):
+    if len(set(thing)) < len(thing):
         return False
     # All of the lower epochs stand ahead just if the epochs come in the order of the pieces.
     return [epochs[piece] for piece in thing] == epochs[:len(thing)]

@@ -25,17 +25,17 @@ class Hunt:
         self.spoiled = [mask_of(_spoiled_by(piece, pattern)) for piece in pieces]
         content = overwritten(plan, begun)
         self.spoiled_first = mask_of([cell for cell in pattern if content[cell] not in pattern[cell]])
-        self.placed_in = piece_epochs(plan)
+        self.own_epochs = piece_epochs(plan)
         self.claimed = claimed_there(claims)
         self.later = later_pieces(plan, ahead)
         self.members = [[] for _ in range(plan.epochs)]
-        for piece, epoch in enumerate(self.placed_in):
+        for piece, epoch in enumerate(self.own_epochs):
             if piece not in gone and piece not in begun:
                 self.members[epoch].append(piece)
 
     def is_sure(self, piece, epoch):
         """Return whether a piece surely came in a fall in an epoch that fits the claims."""
-        return self.placed_in[piece] < epoch or piece in self.claimed
+        return self.own_epochs[piece] < epoch or piece in self.claimed
 
 
 def _cells_of(piece, pattern):
@@ -70,7 +70,7 @@ def fall_behind(plan, pattern, claims, begun):
     hunt = Hunt(plan, pattern, claims, begun)
     for epoch in range(last_epoch(plan, begun), plan.epochs):
         # A fall in an epoch without pieces is one in the epoch ahead of it, too.
-        if epoch > 0 and epoch not in hunt.placed_in or misplaced_in(plan, claims, epoch) is not None:
+        if epoch > 0 and epoch not in hunt.own_epochs or misplaced_in(plan, claims, epoch) is not None:
             continue
         order, _ = _go_back(hunt, epoch)
         if order is not None:
@@ -146,9 +146,8 @@ def is_shut(plan, pattern, claims, thing):
     check_question(plan, pattern, claims)
     if not isinstance(thing, list) or len(thing) != plan.epochs:
         return False
-    _, gone, _ = claims
     hunt = Hunt(plan, pattern, claims, [])
-    return all([_is_entry(hunt, gone, epoch, entry) for epoch, entry in enumerate(thing)])
+    return all([_is_entry(hunt, claims[1], epoch, entry) for epoch, entry in enumerate(thing)])
 
 
 def _is_entry(hunt, gone, epoch, thing):
@@ -158,11 +157,11 @@ def _is_entry(hunt, gone, epoch, thing):
     word, told = thing
     if word == "stuck":
         return isinstance(told, dict) and _are_spoils(hunt, epoch, told)
-    if not is_index(told, len(hunt.placed_in)):
+    if not is_index(told, len(hunt.own_epochs)):
         return False
     if word == "there":
-        return told in hunt.claimed and hunt.placed_in[told] > epoch
-    return word == "gone" and told in gone and hunt.placed_in[told] < epoch
+        return told in hunt.claimed and hunt.own_epochs[told] > epoch
+    return word == "gone" and told in gone and hunt.own_epochs[told] < epoch
 
 
 def _are_spoils(hunt, epoch, spoils):

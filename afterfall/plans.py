@@ -24,7 +24,7 @@ def is_step(cells, thing):
 
 
 def is_room(width, steps):
-    """Return whether a plan can have as many steps as these, and as many pieces as they have."""
+    """Return whether neither these steps nor their pieces are too many for a plan."""
     return len(steps) <= MOST_STEPS and len(_pieces_of(width, steps)) <= MOST_PIECES
 
 
@@ -57,10 +57,8 @@ def _epochs_of(steps):
 
 
 def _are_steps(cells, thing):
-    """Return whether a thing is a list of steps that are not too many."""
-    if not isinstance(thing, list) or len(thing) > MOST_STEPS:
-        return False
-    return all([is_step(cells, step) for step in thing])
+    """Return whether a thing is a list of steps, of whatever length."""
+    return isinstance(thing, list) and all([is_step(cells, step) for step in thing])
 
 
 class Plan:
@@ -70,7 +68,7 @@ class Plan:
         if not is_content(base) or not is_width(width) or not _are_steps(len(base), steps):
             raise InvalidPlan("not the base, the width and the steps of a plan")
         if not is_room(width, steps):
-            raise InvalidPlan("too many pieces")
+            raise InvalidPlan("too many steps or pieces")
         epochs = _epochs_of(steps)
         self._base = base
         self._width = width

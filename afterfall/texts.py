@@ -2,7 +2,7 @@
 
 from afterfall.cells import is_content
 from afterfall.errors import ParseError
-from afterfall.plans import MOST_STEPS, Plan, is_room, is_step, is_width
+from afterfall.plans import Plan, is_room, is_step, is_width
 
 FIGURES = "0123456789"
 MOST_FIGURES = 2
@@ -45,7 +45,7 @@ def _steps_in(lines, width, cells):
     steps = []
     for at in range(2, len(lines)):
         step = _step_in(lines[at])
-        if len(steps) == MOST_STEPS or not is_step(cells, step) or not is_room(width, steps + [step]):
+        if not is_step(cells, step) or not is_room(width, steps + [step]):
             raise ParseError(at)
         steps.append(step)
     return steps

@@ -5,7 +5,7 @@ import unittest
 from itertools import permutations
 
 from afterfall.errors import InvalidFall, InvalidPattern
-from afterfall.falls import content_after, epoch_in, is_fall, is_found
+from afterfall.falls import content_after, epoch_in, is_fall, is_found, ready_behind
 from afterfall.plans import Plan
 from tests.oracle import ODD_THINGS, after, all_falls, any_pattern, any_plan, epochs_of, is_let
 
@@ -107,6 +107,16 @@ class Epochs(unittest.TestCase):
                           if all(at >= epoch or piece in fall for piece, at in enumerate(epochs))
                           and all(epochs[piece] <= epoch for piece in fall)]
                 self.assertEqual(epoch_in(plan, fall), inside[0])
+
+
+class Ready(unittest.TestCase):
+    def test_the_pieces_behind_which_a_fall_is_still_a_fall(self):
+        chance = random.Random(30)
+        for _ in range(60):
+            plan = any_plan(chance, Plan, 4)
+            for fall in all_falls(plan):
+                able = [piece for piece in range(len(plan.pieces)) if is_fall(plan, fall + [piece])]
+                self.assertEqual(ready_behind(plan, fall), able)
 
 
 class Errors(unittest.TestCase):

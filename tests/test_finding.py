@@ -247,6 +247,9 @@ class Entries(unittest.TestCase):
         self.judge(plan, {0: (7,)}, ([], [2], []), [first, ("gone", 2), ("gone", 2)], False)
         self.judge(plan, {}, ([2], [0], []), [("there", 2), ("there", 2), ("gone", 0)], True)
         self.judge(plan, {}, ([2], [0], []), [("gone", 0), ("there", 2), ("gone", 0)], False)
+        for word in ("Gone", "lost", "", "there", "stuck", None, 0, ("gone",), True):
+            self.judge(plan, {}, ([2], [0], []), [("there", 2), ("there", 2), (word, 0)], False)
+            self.judge(plan, {}, ([2], [0], []), [(word, 2), ("there", 2), ("gone", 0)], word == "there")
         self.judge(plan, {}, ([2], [0], []), [("there", 2), ("gone", 0), ("there", 2)], False)
 
     def test_spoils_are_those_of_cells_of_the_pattern(self):
