@@ -1,7 +1,7 @@
 """Claims: which pieces came, which did not, and which came ahead of others."""
 
-from afterfall.errors import InvalidClaims, InvalidFall, UnknownEpoch, UnknownPiece
-from afterfall.falls import is_fall
+from afterfall.errors import InvalidClaims, UnknownEpoch, UnknownPiece
+from afterfall.falls import check_fall
 from afterfall.kinds import is_ascending, is_index
 from afterfall.plans import piece_epochs
 
@@ -61,7 +61,11 @@ def is_in(member, mask):
 def later_pieces(plan, ahead):
     """Return for each piece the mask of those that it must come ahead of, with these tuples."""
     epochs = piece_epochs(plan)
-    later = [mask_of([number for number, at in enumerate(epochs) if at > epoch]) for epoch in epochs]
+    higher = [mask_of([piece for piece, at in enumerate(epochs) if at > epoch]) for epoch in range(plan.epochs)]
+    later = [higher[epoch] for epoch in epochs]
+    if not ahead:
+        # By their epochs alone a chain of steps leads nowhere where no single step leads.
+        return later
     for piece, other in ahead:
         later[piece] |= 1 << other
     for middle in range(len(later)):
@@ -78,8 +82,7 @@ def check_claims(plan, claims):
 def fits(plan, claims, fall):
     """Return whether a fall fits claims."""
     check_claims(plan, claims)
-    if not is_fall(plan, fall):
-        raise InvalidFall("not a fall of the plan")
+    check_fall(plan, fall)
     return is_fitting(claims, fall)
 
 

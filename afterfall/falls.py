@@ -19,27 +19,33 @@ def is_fall(plan, thing):
 
 def content_after(plan, fall):
     """Return what is found after a fall."""
-    _check_fall(plan, fall)
+    check_fall(plan, fall)
     return overwritten(plan, fall)
 
 
 def epoch_in(plan, fall):
     """Return the least epoch that a fall is in."""
-    _check_fall(plan, fall)
+    check_fall(plan, fall)
     return last_epoch(plan, fall)
 
 
 def is_found(plan, fall, pattern):
     """Return whether what is found after a fall matches a pattern."""
-    _check_fall(plan, fall)
-    if not is_pattern(len(plan.base), pattern):
-        raise InvalidPattern("not a pattern for the cells of the plan")
+    check_fall(plan, fall)
+    check_pattern(plan, pattern)
     return agrees(pattern, overwritten(plan, fall))
 
 
-def _check_fall(plan, fall):
+def check_fall(plan, fall):
+    """Raise InvalidFall unless this is a fall of the plan."""
     if not is_fall(plan, fall):
         raise InvalidFall("not a fall of the plan")
+
+
+def check_pattern(plan, pattern):
+    """Raise InvalidPattern unless this is a pattern for the cells of the plan."""
+    if not is_pattern(len(plan.base), pattern):
+        raise InvalidPattern("not a pattern for the cells of the plan")
 
 
 def overwritten(plan, fall):

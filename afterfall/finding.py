@@ -1,9 +1,7 @@
 """Finding a fall after which a pattern is found, or a paper that there is none."""
 
-from afterfall.cells import is_pattern
 from afterfall.claims import check_claims, claimed_there, is_in, later_pieces, mask_of, may_begin, misplaced_in
-from afterfall.errors import InvalidPattern
-from afterfall.falls import last_epoch, overwritten
+from afterfall.falls import check_pattern, last_epoch, overwritten
 from afterfall.kinds import is_index, is_integer
 from afterfall.plans import piece_epochs
 
@@ -52,8 +50,7 @@ def _spoiled_by(piece, pattern):
 
 def check_question(plan, pattern, claims):
     """Raise InvalidPattern or InvalidClaims unless the arguments are a pattern and claims of the plan."""
-    if not is_pattern(len(plan.base), pattern):
-        raise InvalidPattern("not a pattern for the cells of the plan")
+    check_pattern(plan, pattern)
     check_claims(plan, claims)
 
 
@@ -61,6 +58,11 @@ def find(plan, pattern, claims):
     """Return a fall that fits claims and after which a pattern is found, or None."""
     check_question(plan, pattern, claims)
     return fall_behind(plan, pattern, claims, [])
+
+
+def fall_leaving(plan, pattern):
+    """Return a fall after which a pattern is found, or None, for what is known to be a pattern."""
+    return fall_behind(plan, pattern, ([], [], []), [])
 
 
 def fall_behind(plan, pattern, claims, begun):

@@ -74,6 +74,11 @@ def such_falls(plan, pattern, claims):
     return [fall for fall in all_falls(plan) if is_fit(claims, fall) and is_let(pattern, after(plan, fall))]
 
 
+def contents_of(plan, pattern=None, claims=NONE):
+    """What is found after such falls, in ascending order."""
+    return sorted({after(plan, fall) for fall in such_falls(plan, pattern or {}, claims)})
+
+
 def is_whole(thing):
     return isinstance(thing, int) and not isinstance(thing, bool)
 
@@ -162,6 +167,21 @@ def any_claims(chance, plan):
             return claims
 
 
+def any_guards(chance, cells, most=4):
+    return [any_pattern(chance, cells) for _ in range(chance.randint(0, most))]
+
+
+def large_plan(chance, plan_class, cells, barriers, worths=3, longest=6):
+    """A plan of forty steps, each a barrier by a chance, and a write, of one piece, otherwise."""
+    steps = []
+    while len(steps) < 40:
+        first = chance.randrange(cells)
+        many = chance.randint(1, min(cells - first, longest))
+        write = (first, tuple(chance.randrange(worths) for _ in range(many)))
+        steps.append(None if chance.random() < barriers else write)
+    return plan_class((0,) * cells, 24, steps)
+
+
 def nest(thing, levels):
     """A thing within lists and tuples, so many levels deep."""
     for level in range(levels):
@@ -170,7 +190,7 @@ def nest(thing, levels):
 
 
 # Objects of the kinds that [2] calls "any object"; nothing in here is a content, a pattern for
-# one cell or more, a step, a number, a list of numbers, claims or a paper of any plan.
+# one cell or more, a step, a number, a list of numbers, claims, guards, rules or a paper of any plan.
 ODD_THINGS = [
     True, False, "", "a", "0", "plan 1", "\t", "\n", -1, 10 ** 40 - 1, -10 ** 40 + 1,
     (None,), [None], (True,), [True], ("a",), ["a"], ((),), [()], [[]], ([],), (-1,), [-1], (10 ** 39,), [10 ** 39],

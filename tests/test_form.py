@@ -22,6 +22,10 @@ INTERFACE = {
                 "is_shut": "plan, pattern, claims, thing"},
     "sure": {"surely_came": "plan, pattern, claims", "surely_lost": "plan, pattern, claims",
              "surely_ahead": "plan, pattern, claims", "first_fall": "plan, pattern, claims"},
+    "worths": {"worths_of": "plan, pattern, claims, cell", "together": "plan, pattern, claims, cells"},
+    "contents": {"next_content": "plan, pattern, content", "contents": "plan, pattern, most"},
+    "same": {"only": "plan, other", "leave_the_same": "plan, other"},
+    "guards": {"harm": "plan, guards", "is_harm": "plan, guards, thing"},
 }
 LIBRARY = ("heapq", "math", "itertools", "collections", "__future__")
 
