@@ -1,6 +1,6 @@
 """The contents that can be found after a plan, in ascending order."""
 
-from afterfall.cells import ALL_WORTHS, both, is_content
+from afterfall.cells import both, is_content
 from afterfall.errors import InvalidContent, InvalidNumber
 from afterfall.falls import check_pattern, overwritten
 from afterfall.finding import fall_leaving

@@ -56,19 +56,19 @@ def _epochs_of(steps):
     return epochs
 
 
-def _are_steps(cells, thing):
-    """Return whether a thing is a list of steps, of whatever length."""
-    return isinstance(thing, list) and all([is_step(cells, step) for step in thing])
+def are_steps(cells, width, thing):
+    """Return whether a thing is a list of the steps of a plan with a number of cells and a width."""
+    if not isinstance(thing, list) or not all([is_step(cells, step) for step in thing]):
+        return False
+    return is_room(width, thing)
 
 
 class Plan:
     """A base, a width and steps; it never changes."""
 
     def __init__(self, base, width, steps):
-        if not is_content(base) or not is_width(width) or not _are_steps(len(base), steps):
-            raise InvalidPlan("not the base, the width and the steps of a plan")
-        if not is_room(width, steps):
-            raise InvalidPlan("too many steps or pieces")
+        if not is_content(base) or not is_width(width) or not are_steps(len(base), width, steps):
+            raise InvalidPlan("not the base, the width and the steps of a plan, or too many steps or pieces")
         epochs = _epochs_of(steps)
         self._base = base
         self._width = width

@@ -3,6 +3,8 @@
 Nothing here is quick, and nothing here uses the program, except for what a plan tells of itself.
 """
 
+import itertools
+
 NONE = ([], [], [])
 
 
@@ -132,6 +134,138 @@ def worth_in(plan, piece, cell):
     return worths[cell - first] if first <= cell < first + len(worths) else None
 
 
+def gaps_of(plan):
+    steps = plan.steps
+    return [at for at in range(1, len(steps)) if steps[at] is not None and steps[at - 1] is not None]
+
+
+def barred(plan, chosen):
+    """The plan with a barrier ahead of each of these steps."""
+    steps = [part for at, step in enumerate(plan.steps) for part in ([None, step] if at in chosen else [step])]
+    return type(plan)(plan.base, plan.width, steps)
+
+
+def is_shut_by(plan, fall, gap):
+    """Whether a piece from the gap on is in, and one ahead of the gap is not, or stands behind it."""
+    lower = [piece for piece in range(len(plan.pieces)) if plan.pieces[piece][0] < gap]
+    return any(piece not in lower and not set(lower) <= set(fall[:at]) for at, piece in enumerate(fall))
+
+
+def shutters_by(plan, fall):
+    return [gap for gap in gaps_of(plan) if is_shut_by(plan, fall, gap)]
+
+
+def lists_of(things):
+    """All lists of some of these things, each at most once, in their order."""
+    return [list(some) for many in range(len(things) + 1) for some in itertools.combinations(things, many)]
+
+
+def is_shut_out(plan, guards):
+    """Whether no guard is found after any fall."""
+    found = {after(plan, fall) for fall in all_falls(plan)}
+    return not any(is_let(guard, content) for guard in guards for content in found)
+
+
+def is_tree(plan, guards, prices, number, thing, chosen=()):
+    """Whether a thing is a tree on the way to which these gaps got a barrier, condition by condition."""
+    spent = sum(prices[gap] for gap in chosen) >= number
+    if not isinstance(thing, tuple) or not thing or not isinstance(thing[0], str):
+        return False
+    if spent or len(thing) != 4:
+        return spent and len(thing) == 1 and thing[0] == "spent"
+    word, guard, fall, trees = thing
+    if word != "found" or not is_whole(guard) or not 0 <= guard < len(guards):
+        return False
+    if not isinstance(fall, list) or not all(is_whole(piece) for piece in fall):
+        return False
+    if fall not in all_falls(barred(plan, chosen)) or not is_let(guards[guard], after(plan, fall)):
+        return False
+    gaps = [gap for gap in shutters_by(plan, fall) if gap not in chosen]
+    if not isinstance(trees, list) or len(trees) != len(gaps):
+        return False
+    return all(is_tree(plan, guards, prices, number, tree, (*chosen, gap)) for gap, tree in zip(gaps, trees))
+
+
+def restart_for(plan, rules, content):
+    for pattern, steps in rules:
+        if is_let(pattern, content):
+            return type(plan)(content, plan.width, steps)
+    return None
+
+
+def whole_contents(plan):
+    """What is found after falls with all pieces."""
+    return {after(plan, fall) for fall in all_falls(plan) if len(fall) == len(plan.pieces)}
+
+
+def reached_by(plan, rules):
+    """A dict from all contents that are found after histories to their restarts."""
+    restarts, waiting = {}, contents_of(plan)
+    while waiting:
+        content = waiting.pop()
+        if content not in restarts:
+            restarts[content] = restart_for(plan, rules, content)
+            if restarts[content] is not None:
+                waiting.extend(contents_of(restarts[content]))
+    return restarts
+
+
+def found_at_the_end(plan, rules, thing):
+    """What is found after the last fall of a history, or None if the thing is none."""
+    if not isinstance(thing, list) or not thing:
+        return None
+    runs, content = plan, None
+    for fall in thing:
+        if runs is None or not isinstance(fall, list) or not all(is_whole(piece) for piece in fall):
+            return None
+        if fall not in all_falls(runs):
+            return None
+        content = after(runs, fall)
+        runs = restart_for(plan, rules, content)
+    return content
+
+
+def is_content_of(plan, thing):
+    return (isinstance(thing, tuple) and len(thing) == len(plan.base)
+            and all(is_whole(worth) and 0 <= worth <= 7 for worth in thing))
+
+
+def is_closed_list(plan, rules, guards, thing):
+    """Whether a thing is an ascending list of contents that no fall leads out of, and none at rest is bad."""
+    if not isinstance(thing, list) or len(thing) > 99 or not all(is_content_of(plan, part) for part in thing):
+        return False
+    if any(one >= two for one, two in zip(thing, thing[1:])) or not set(contents_of(plan)) <= set(thing):
+        return False
+    for content in thing:
+        runs = restart_for(plan, rules, content)
+        if runs is None and any(is_let(guard, content) for guard in guards):
+            return False
+        if runs is not None and not set(contents_of(runs)) <= set(thing):
+            return False
+    return True
+
+
+def is_rest_dict(plan, rules, thing):
+    """Whether a thing is a dict from what is reached and not at rest to integers that get less."""
+    going = {content: runs for content, runs in reached_by(plan, rules).items() if runs is not None}
+    if not isinstance(thing, dict) or not all(is_content_of(plan, key) for key in thing) or set(thing) != set(going):
+        return False
+    if not all(is_whole(number) and number >= 0 for number in thing.values()):
+        return False
+    return all(other not in going or thing[other] < thing[content]
+               for content, runs in going.items() for other in whole_contents(runs))
+
+
+def is_circle_list(plan, rules, thing):
+    """Whether a thing is a list of contents, each left by a restart of the one ahead, that ends as it begins."""
+    going = {content: runs for content, runs in reached_by(plan, rules).items() if runs is not None}
+    if not isinstance(thing, list) or len(thing) < 2 or not all(is_content_of(plan, part) for part in thing):
+        return False
+    if thing[0] != thing[-1] or len(set(thing[1:])) != len(thing[1:]) or not set(thing) <= set(going):
+        return False
+    return all(two in whole_contents(going[one]) for one, two in zip(thing, thing[1:]))
+
+
 def any_plan(chance, plan_class, most=5):
     """A plan of at most as many pieces, with barriers, also several side by side."""
     while True:
@@ -169,6 +303,55 @@ def any_claims(chance, plan):
 
 def any_guards(chance, cells, most=4):
     return [any_pattern(chance, cells) for _ in range(chance.randint(0, most))]
+
+
+def any_line(chance, plan_class):
+    """A plan of three to five pieces with one barrier at most, and guards that barriers mostly shut out."""
+    cells = chance.randint(2, 4)
+    steps = [(chance.randrange(cells), (chance.randint(1, 2),)) for _ in range(chance.randint(3, 4))]
+    if chance.random() < 0.3:
+        steps[0] = (0, (chance.randint(1, 2),) * 2)
+    if chance.random() < 0.3:
+        steps.insert(chance.randint(1, 3), None)
+    plan = plan_class((0,) * cells, chance.randint(1, 2), steps)
+    found, late = contents_of(plan), contents_of(barred(plan, gaps_of(plan)))
+    guards = []
+    for _ in range(chance.randint(1, 3)):
+        content = chance.choice(found)
+        cell_list = sorted(chance.sample(range(cells), chance.randint(min(2, cells), cells)))
+        guard = {cell: (content[cell],) for cell in cell_list}
+        if not any(is_let(guard, other) for other in late) or chance.random() < 0.1:
+            guards.append(guard)
+    return plan, guards
+
+
+def any_rules(chance, plan, most=3, pieces=3):
+    """Rules of a plan, each with at most as many pieces."""
+    rules = []
+    for _ in range(chance.randint(0, most)):
+        made = None
+        while made is None or not made.steps or len(made.pieces) > pieces:
+            steps = []
+            for _ in range(chance.randint(1, 3)):
+                first = chance.randrange(len(plan.base))
+                many = chance.randint(1, min(2, len(plan.base) - first))
+                write = (first, tuple(chance.randrange(3) for _ in range(many)))
+                steps.append(None if chance.random() < 0.3 else write)
+            made = type(plan)(plan.base, plan.width, steps)
+        pattern = any_pattern(chance, len(plan.base)) or {0: (chance.randrange(3),)}
+        rules.append((pattern, made.steps))
+    return rules
+
+
+def inner_lists(thing):
+    """All lists and dicts within a thing, as often as they stand in it, and the thing itself if it is one."""
+    inner = [thing] if isinstance(thing, (list, dict)) else []
+    if isinstance(thing, dict):
+        thing = list(thing.values())
+    if isinstance(thing, (list, tuple)):
+        for part in thing:
+            inner.extend(inner_lists(part))
+    return inner
 
 
 def large_plan(chance, plan_class, cells, barriers, worths=3, longest=6):

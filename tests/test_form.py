@@ -1,6 +1,7 @@
 """The form of the package: the names of the interface, and the sizes and imports that the program keeps to."""
 
 import ast
+import builtins
 import importlib
 import inspect
 import pathlib
@@ -26,6 +27,16 @@ INTERFACE = {
     "contents": {"next_content": "plan, pattern, content", "contents": "plan, pattern, most"},
     "same": {"only": "plan, other", "leave_the_same": "plan, other"},
     "guards": {"harm": "plan, guards", "is_harm": "plan, guards, thing"},
+    "barriers": {"gaps": "plan", "with_barriers": "plan, chosen", "shutters": "plan, fall",
+                 "cheapest": "plan, guards, prices", "is_safe": "plan, guards, thing"},
+    "bills": {"bill": "plan, guards, prices, number", "is_bill": "plan, guards, prices, number, thing"},
+    "makers": {"straight": "olds, news", "switched": "olds, news, barriers", "logged": "olds, news, barriers",
+               "log_rules": "olds, news, barrier"},
+    "restarts": {"restart": "plan, rules, content", "is_history": "plan, rules, thing",
+                 "content_behind": "plan, rules, history", "reached": "plan, rules", "unsafe": "plan, rules, guards",
+                 "is_unsafe": "plan, rules, guards, thing", "closed": "plan, rules, guards",
+                 "is_closed": "plan, rules, guards, thing", "rests": "plan, rules", "is_rests": "plan, rules, thing",
+                 "circle": "plan, rules", "is_circle": "plan, rules, thing"},
 }
 LIBRARY = ("heapq", "math", "itertools", "collections", "__future__")
 
@@ -78,6 +89,28 @@ class Form(unittest.TestCase):
                             thing = getattr(importlib.import_module(node.module), alias.name)
                             home = getattr(thing, "__module__", node.module)
                             self.assertEqual(home, node.module, (name, alias.name))
+
+    def test_names(self):
+        for name, tree in self.trees():
+            nodes = list(ast.walk(tree))
+            taken = {alias.name for node in nodes if isinstance(node, ast.ImportFrom) for alias in node.names}
+            used = {node.id for node in nodes if isinstance(node, ast.Name)}
+            self.assertLessEqual(taken, used, name)
+            taken |= {node.name for node in nodes if isinstance(node, ast.ClassDef)} | set(dir(builtins))
+            given = {node.arg for node in nodes if isinstance(node, ast.arg)}
+            given |= {node.id for node in nodes if isinstance(node, ast.Name) and isinstance(node.ctx, ast.Store)}
+            self.assertEqual(taken & given, set(), name)
+
+    def test_no_attribute_has_the_name_of_a_property(self):
+        properties, stored = set(), set()
+        for _, tree in self.trees():
+            for node in ast.walk(tree):
+                if isinstance(node, ast.FunctionDef) and node.decorator_list:
+                    properties.add(node.name)
+                if isinstance(node, ast.Attribute) and isinstance(node.ctx, ast.Store):
+                    stored.add(node.attr)
+        self.assertTrue(properties)
+        self.assertEqual(properties & stored, set())
 
     def test_what_is_not_used(self):
         kinds = (ast.Global, ast.AsyncFunctionDef, ast.Await, ast.Div)
