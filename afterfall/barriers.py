@@ -14,7 +14,11 @@ MOST_PRICE = 999
 
 def gaps(plan):
     """Return the ascending list of the writes, by their steps, that have a write ahead of them."""
-    steps = plan.steps
+    return gaps_among(plan.steps)
+
+
+def gaps_among(steps):
+    """Return the ascending list of the writes among steps, by their indexes, that have a write ahead of them."""
     return [gap for gap in range(1, len(steps)) if steps[gap - 1] is not None and steps[gap] is not None]
 
 
@@ -35,12 +39,17 @@ def _are_gaps(plan, thing):
 
 def _barred(plan, chosen):
     """Return the same as `with_barriers`, for what are known to be gaps."""
-    steps = []
-    for index, step in enumerate(plan.steps):
+    return Plan(plan.base, plan.width, steps_barred(plan.steps, chosen))
+
+
+def steps_barred(steps, chosen):
+    """Return the list of steps with a barrier ahead of each of those with some indexes."""
+    barred = []
+    for index, step in enumerate(steps):
         if index in chosen:
-            steps.append(None)
-        steps.append(step)
-    return Plan(plan.base, plan.width, steps)
+            barred.append(None)
+        barred.append(step)
+    return barred
 
 
 def shutters(plan, fall):
@@ -73,7 +82,12 @@ def _are_prices(plan, thing):
         return False
     if sorted(thing) != gaps(plan):
         return False
-    return all([is_integer(thing[gap]) and 1 <= thing[gap] <= MOST_PRICE for gap in thing])
+    return all([is_price(thing[gap]) for gap in thing])
+
+
+def is_price(thing):
+    """Return whether a thing is a price."""
+    return is_integer(thing) and 1 <= thing <= MOST_PRICE
 
 
 class Harms:
@@ -89,15 +103,17 @@ class Harms:
         past = [entry for entry in self.known if not any([gap in chosen for gap in entry[0]])]
         if past:
             return min(past, key=lambda entry: len(entry[0]))
+        entry = self.asked(chosen)
+        if entry is not None:
+            self.known.append(entry)
+        return entry
+
+    def asked(self, chosen):
+        """Return the same as `left_with`, for a fall that is looked for anew."""
         harm = harm_to(_barred(self.bare, chosen), self.guards)
         if harm is None:
             return None
-        told = self._told(chosen, *harm)
-        self.known.append(told)
-        return told
-
-    def _told(self, chosen, guard, fall):
-        """Return such a tuple of a fall, or of another one that fewer gaps shut."""
+        guard, fall = harm
         for gap in gaps(self.bare):
             # The fewer gaps shut a fall, the more it tells of the barriers that are needed.
             other = fall
@@ -116,11 +132,11 @@ def cheapest(plan, guards, prices):
     if harm is not None:
         guard, course = harm
         raise Always(guard, course)
-    return _cheapest_past(Harms(plan, guards), prices)
+    return cheapest_past(Harms(plan, guards), prices)
 
 
-def _cheapest_past(harms, prices):
-    """Return the same as `cheapest`, where barriers in all gaps are enough."""
+def cheapest_past(harms, prices):
+    """Return a tuple of the least price of barriers that leave no harm, and their gaps, where there are such."""
     queue, seen = [(0, [])], {}
     while True:
         price, chosen = heappop(queue)

@@ -1,7 +1,7 @@
 """Bills: why barriers that let no guard be found cost at least a number."""
 
 from afterfall.barriers import Harms, check_prices, shutters_of
-from afterfall.errors import InvalidNumber
+from afterfall.errors import InvalidNumber, copied
 from afterfall.guards import check_guards, does_harm
 from afterfall.kinds import is_integer
 
@@ -9,7 +9,7 @@ from afterfall.kinds import is_integer
 def bill(plan, guards, prices, number):
     """Return a tree that shows that barriers cost at least a number, or None if cheaper ones are enough."""
     _check_order(plan, guards, prices, number)
-    return _tree(Harms(plan, guards), prices, number, [])
+    return tree_behind(Harms(plan, guards), "found", (prices, number), [])
 
 
 def _check_order(plan, guards, prices, number):
@@ -20,26 +20,27 @@ def _check_order(plan, guards, prices, number):
         raise InvalidNumber("not an integer from 0 on")
 
 
-def _is_spent(prices, number, chosen):
-    """Return whether the prices of gaps add up to at least a number."""
+def is_spent(cost, chosen):
+    """Return whether the prices of gaps add up to at least the number of a cost, a tuple (prices, number)."""
+    prices, number = cost
     return sum([prices[gap] for gap in chosen]) >= number
 
 
-def _tree(harms, prices, number, chosen):
+def tree_behind(harms, word, cost, chosen):
     """Return a tree for the way on which gaps got a barrier, or None if some cheaper ones are enough."""
-    if _is_spent(prices, number, chosen):
+    if is_spent(cost, chosen):
         return ("spent",)
     told = harms.left_with(chosen)
     if told is None:
         return None
-    shutters, guard, fall = told
+    shutters, guard, course = told
     trees = []
     for gap in shutters:
-        tree = _tree(harms, prices, number, chosen + [gap])
+        tree = tree_behind(harms, word, cost, chosen + [gap])
         if tree is None:
             return None
         trees.append(tree)
-    return ("found", guard, list(fall), trees)
+    return (word, guard, copied(course), trees)
 
 
 def is_bill(plan, guards, prices, number, thing):
@@ -51,7 +52,7 @@ def is_bill(plan, guards, prices, number, thing):
 def _is_tree(order, thing, chosen):
     """Return whether a thing is a tree for the way on which gaps got a barrier."""
     plan, guards, prices, number = order
-    if _is_spent(prices, number, chosen):
+    if is_spent((prices, number), chosen):
         return thing == ("spent",)
     if not isinstance(thing, tuple) or len(thing) != 4:
         return False

@@ -5,6 +5,7 @@ from afterfall.kinds import is_ascending, is_index
 
 MOST_CELLS = 24
 ALL_WORTHS = (0, 1, 2, 3, 4, 5, 6, 7)
+BITS = 3
 
 
 def are_worths(thing):
@@ -23,10 +24,10 @@ def is_pattern(cells, thing):
     """Return whether a thing is a pattern for a number of cells."""
     if not isinstance(thing, dict):
         return False
-    return all([is_index(cell, cells) and _are_let(thing[cell]) for cell in thing])
+    return all([is_index(cell, cells) and are_let(thing[cell]) for cell in thing])
 
 
-def _are_let(thing):
+def are_let(thing):
     """Return whether a thing can be the worths that a pattern lets a cell hold."""
     return are_worths(thing) and is_ascending(thing)
 
@@ -60,3 +61,16 @@ def both(cells, pattern, other):
 
 def _in_both(worths, others):
     return tuple([worth for worth in worths if worth in others])
+
+
+def code_of(content):
+    """Return the integer whose groups of three bits are the worths of a content; codes ascend as contents do."""
+    code = 0
+    for worth in content:
+        code = code << BITS | worth
+    return code
+
+
+def decoded(cells, code):
+    """Return the content of a number of cells that has a code."""
+    return tuple([code >> BITS * behind & ALL_WORTHS[-1] for behind in reversed(range(cells))])

@@ -9,9 +9,14 @@ from afterfall.kinds import is_index
 MOST_LISTED = 99
 
 
+def is_content_for(plan, thing):
+    """Return whether a thing is a content for the cells of a plan."""
+    return is_content(thing) and len(thing) == len(plan.base)
+
+
 def check_content(plan, content):
     """Raise InvalidContent unless this is a content for the cells of the plan."""
-    if not is_content(content) or len(content) != len(plan.base):
+    if not is_content_for(plan, content):
         raise InvalidContent("not a content for the cells of the plan")
 
 

@@ -19,13 +19,13 @@ class Always(FallError):
     def __init__(self, guard, course):
         super().__init__(f"guard {guard} can be found with barriers in all gaps")
         self.guard = guard
-        self.course = _copied(course)
+        self.course = copied(course)
 
 
-def _copied(course):
+def copied(course):
     """Return a course, a fall or a history, that shares no list with this one."""
     if isinstance(course, list):
-        return [_copied(part) for part in course]
+        return [copied(part) for part in course]
     return course
 
 

@@ -50,11 +50,16 @@ def check_pattern(plan, pattern):
 
 def overwritten(plan, fall):
     """Return the same as `content_after`, for what is known to be a fall."""
-    content, pieces = list(plan.base), plan.pieces
+    content, pieces = plan.base, plan.pieces
     for piece in fall:
-        _, first, worths = pieces[piece]
-        content[first:first + len(worths)] = worths
-    return tuple(content)
+        content = behind_piece(content, pieces[piece])
+    return content
+
+
+def behind_piece(content, piece):
+    """Return a content, overwritten by a piece."""
+    _, first, worths = piece
+    return content[:first] + worths + content[first + len(worths):]
 
 
 def last_epoch(plan, fall):
@@ -62,9 +67,8 @@ def last_epoch(plan, fall):
     return plan.epoch_of(fall[-1]) if fall else 0
 
 
-def ready_behind(plan, fall):
-    """Return the ascending list of the pieces that can come next behind a fall."""
-    epochs = piece_epochs(plan)
+def ready_behind(epochs, fall):
+    """Return the ascending list of the pieces that can come next behind a fall, with the epochs of all pieces."""
     if len(fall) == len(epochs):
         return []
     return [piece for piece, epoch in enumerate(epochs) if epoch == epochs[len(fall)] and piece not in fall]

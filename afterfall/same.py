@@ -1,22 +1,21 @@
 """Whether two plans can leave the same contents."""
 
+from afterfall.cells import BITS, code_of, decoded
 from afterfall.errors import Mismatch
 
 
 def only(plan, other):
     """Return the least content that can be found after a plan and not after another one, or None."""
     _check_cells(plan, other)
-    found, _ = left_by(plan)
-    known, _ = left_by(other)
-    return min([content for content in found if content not in known], default=None)
+    found, known = _codes_left_by(plan), _codes_left_by(other)
+    least = min([code for code in found if code not in known], default=None)
+    return None if least is None else decoded(len(plan.base), least)
 
 
 def leave_the_same(plan, other):
     """Return whether two plans can leave the same contents."""
     _check_cells(plan, other)
-    found, _ = left_by(plan)
-    known, _ = left_by(other)
-    return found == known
+    return _codes_left_by(plan) == _codes_left_by(other)
 
 
 def _check_cells(plan, other):
@@ -24,48 +23,65 @@ def _check_cells(plan, other):
         raise Mismatch("the plans do not have as many cells")
 
 
-def left_by(plan, most=None):
-    """Return what falls of a plan can leave, and what those with all pieces can leave.
+def _codes_left_by(plan):
+    """Return, as keys, the codes of all that falls of a plan can leave."""
+    found, _ = left_from(code_of(plan.base), overlays_of(plan), None)
+    return found
 
-    Both are dicts whose keys are the contents. If there are more contents than a number, then
-    more than so many, but perhaps not all of them, are returned.
+
+def left_by(plan, most=None):
+    """Return the list of what falls of a plan can leave, and that of what those with all pieces can leave.
+
+    If there are more contents than a number, then more than so many, but perhaps not all of them, are returned.
     """
-    found, whole = {}, {plan.base: True}
-    for pieces in _members_of(plan):
-        reached = _spread(whole, pieces, most)
-        for content in reached:
-            found[content] = True
+    found, whole = left_from(code_of(plan.base), overlays_of(plan), most)
+    cells = len(plan.base)
+    return [decoded(cells, code) for code in found], [decoded(cells, code) for code in whole]
+
+
+def overlays_of(plan):
+    """Return for each epoch the list of its pieces, each as the bits of a code that it keeps and those that it puts."""
+    overlays = [[] for _ in range(plan.epochs)]
+    for number, piece in enumerate(plan.pieces):
+        overlays[plan.epoch_of(number)].append(_overlay_of(len(plan.base), piece))
+    return overlays
+
+
+def _overlay_of(cells, piece):
+    _, first, worths = piece
+    behind = BITS * (cells - first - len(worths))
+    every, written = (1 << BITS * cells) - 1, (1 << BITS * len(worths)) - 1
+    return (every ^ written << behind, code_of(worths) << behind)
+
+
+def left_from(code, overlays, most):
+    """Return, as the keys of two dicts, the codes of what is left as `left_by` says, for a base with a code."""
+    found, whole = {}, {code: True}
+    for pieces in overlays:
+        found.update(_spread(whole, pieces, most))
         if most is not None and len(found) > most:
             break
         # Behind all pieces in any one order, to let them come again leads to all the other orders.
-        whole = _spread([_overwritten_by(content, pieces) for content in whole], pieces, most)
+        whole = _spread([_put_in_order(start, pieces) for start in whole], pieces, most)
     return found, whole
 
 
-def _members_of(plan):
-    """Return the list of the pieces of each epoch."""
-    members = [[] for _ in range(plan.epochs)]
-    for number, piece in enumerate(plan.pieces):
-        members[plan.epoch_of(number)].append(piece)
-    return members
-
-
-def _overwritten_by(content, pieces):
-    """Return a content, overwritten by pieces in order."""
-    for _, first, worths in pieces:
-        content = content[:first] + worths + content[first + len(worths):]
-    return content
+def _put_in_order(code, pieces):
+    """Return what a code becomes by pieces in order."""
+    for kept, put in pieces:
+        code = code & kept | put
+    return code
 
 
 def _spread(starts, pieces, most):
-    """Return, as keys, what pieces, in any order, each perhaps not at all, can make of some contents."""
-    reached = {content: True for content in starts}
+    """Return, as keys, what pieces, in any order, each perhaps not at all, can make of some codes."""
+    reached = {code: True for code in starts}
     waiting = list(reached)
     while waiting and (most is None or len(reached) <= most):
-        content = waiting.pop()
+        code = waiting.pop()
         # Only the last time that a piece comes counts, so a piece may come again and none is kept in mind.
-        for piece in pieces:
-            made = _overwritten_by(content, [piece])
+        for kept, put in pieces:
+            made = code & kept | put
             if made not in reached:
                 reached[made] = True
                 waiting.append(made)

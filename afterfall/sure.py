@@ -5,6 +5,7 @@ from afterfall.claims import claimed_there, is_fitting, is_in, later_pieces
 from afterfall.errors import Shut
 from afterfall.falls import overwritten, ready_behind
 from afterfall.finding import check_question, fall_behind
+from afterfall.plans import piece_epochs
 
 
 def surely_came(plan, pattern, claims):
@@ -77,7 +78,7 @@ def first_fall(plan, pattern, claims):
 
 def _first_next(plan, pattern, claims, begun):
     """Return the least piece that can come next and behind which the pattern can be found."""
-    able = ready_behind(plan, begun)
+    able = ready_behind(piece_epochs(plan), begun)
     for piece in able[:-1]:
         if fall_behind(plan, pattern, claims, begun + [piece]) is not None:
             return piece

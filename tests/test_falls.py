@@ -6,7 +6,7 @@ from itertools import permutations
 
 from afterfall.errors import InvalidFall, InvalidPattern
 from afterfall.falls import content_after, epoch_in, is_fall, is_found, ready_behind
-from afterfall.plans import Plan
+from afterfall.plans import Plan, piece_epochs
 from tests.oracle import ODD_THINGS, after, all_falls, any_pattern, any_plan, epochs_of, is_let
 
 PLAN = Plan((0, 0, 0, 0), 2, [(1, (1, 1)), None, (2, (2,))])
@@ -116,7 +116,7 @@ class Ready(unittest.TestCase):
             plan = any_plan(chance, Plan, 4)
             for fall in all_falls(plan):
                 able = [piece for piece in range(len(plan.pieces)) if is_fall(plan, fall + [piece])]
-                self.assertEqual(ready_behind(plan, fall), able)
+                self.assertEqual(ready_behind(piece_epochs(plan), fall), able)
 
 
 class Errors(unittest.TestCase):

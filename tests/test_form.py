@@ -4,7 +4,9 @@ import ast
 import builtins
 import importlib
 import inspect
+import io
 import pathlib
+import tokenize
 import unittest
 
 PACKAGE = pathlib.Path(__file__).resolve().parent.parent / "afterfall"
@@ -37,7 +39,40 @@ INTERFACE = {
                  "is_unsafe": "plan, rules, guards, thing", "closed": "plan, rules, guards",
                  "is_closed": "plan, rules, guards, thing", "rests": "plan, rules", "is_rests": "plan, rules, thing",
                  "circle": "plan, rules", "is_circle": "plan, rules, thing"},
+    "stores": {"Store": "base, width"},
+    "board": {"Board": ""},
+    "shell": {"Shell": ""},
+    "safegaps": {"safe_gaps": "plan, rules", "with_gaps": "plan, rules, chosen", "history_gaps": "plan, rules, history",
+                 "cheapest_safe": "plan, rules, guards, prices, falls",
+                 "is_safe_with": "plan, rules, guards, thing, falls"},
+    "safebills": {"safe_bill": "plan, rules, guards, prices, number, falls",
+                  "is_safe_bill": "plan, rules, guards, prices, number, thing, falls"},
+    "fallcounts": {"fewest_falls": "plan, rules, guards", "fall_levels": "plan, rules, guards, number",
+                   "is_fall_levels": "plan, rules, guards, number, thing"},
+    "ran": {"ran_surely": "plan, rules, content", "history_without": "plan, rules, content, index",
+            "ran_paper": "plan, rules, content, index", "is_ran_paper": "plan, rules, content, index, thing",
+            "first_left": "plan, rules, content"},
+    "firsts": {"found_after": "plan, rules, pattern, claims", "after_paper": "plan, rules, pattern, claims",
+               "is_after_paper": "plan, rules, pattern, claims, thing", "first_came": "plan, rules, pattern"},
+    "runs": {"TooLate": None, "AtRest": None, "Run": "plan, rules"},
 }
+METHODS = {
+    "plans.Plan": {"base": None, "width": None, "steps": None, "pieces": None, "epochs": None, "epoch_of": "piece",
+                   "with_step": "index, step", "without_step": "index", "__eq__": "other"},
+    "stores.Store": {"write": "first, worths", "barrier": "", "arrive": "piece", "lose": "", "undo": "", "plan": None,
+                     "came": None, "content": None, "ready": None, "can_hold": "pattern", "__len__": "", "copy": ""},
+    "board.Board": {"create": "name, text", "put": "name, first, worths", "bar": "name", "land": "name, piece",
+                    "crash": "name", "play": "name, count", "drop": "name", "mark": "label", "back": "label",
+                    "batch": "commands", "names": None, "content_of": "name", "came_of": "name", "ready_of": "name",
+                    "text_of": "name", "holds": "name, pattern", "log": None, "copy": ""},
+    "shell.Shell": {"run": "line"},
+    "runs.Run": {"arrive": "piece", "fall": "", "put_in": "gap", "take_out": "gap", "undo": "", "history": None,
+                 "came": None, "content": None, "rule": None, "barriers": None, "__len__": "", "copy": ""},
+}
+BUILTINS = """len range enumerate zip min max sum abs sorted reversed int str bool bytes list tuple dict set isinstance ord
+repr any all divmod pow super property ValueError""".split()
+BUILTIN_METHODS = """append clear copy count endswith extend find get index insert isdigit items join keys pop remove replace
+reverse rfind setdefault split startswith strip update values partition bit_length""".split()
 LIBRARY = ("heapq", "math", "itertools", "collections", "__future__")
 
 
@@ -48,12 +83,29 @@ class Interface(unittest.TestCase):
             for name, parameters in names.items():
                 thing = getattr(module, name)
                 self.assertEqual(thing.__module__, f"afterfall.{file}")
-                self.assertEqual(", ".join(inspect.signature(thing).parameters), parameters, name)
+                if parameters is not None:
+                    self.assertEqual(", ".join(inspect.signature(thing).parameters), parameters, name)
 
-    def test_what_a_plan_has_is_defined_in_its_class(self):
-        from afterfall.plans import Plan
-        for name in ("base", "width", "steps", "pieces", "epochs", "epoch_of", "with_step", "without_step", "__eq__"):
-            self.assertIn(name, vars(Plan))
+    def test_falls_stands_behind_a_star(self):
+        for file, names in INTERFACE.items():
+            for name in [name for name in names if names[name]]:
+                told = inspect.signature(getattr(importlib.import_module(f"afterfall.{file}"), name)).parameters
+                for parameter in told.values():
+                    kind = parameter.KEYWORD_ONLY if parameter.name == "falls" else parameter.POSITIONAL_OR_KEYWORD
+                    self.assertEqual([parameter.kind, parameter.default],
+                                     [kind, None if parameter.name == "falls" else parameter.empty], name)
+
+    def test_methods_are_defined_in_the_class_itself(self):
+        for where, names in METHODS.items():
+            file, name = where.split(".")
+            held = vars(getattr(importlib.import_module(f"afterfall.{file}"), name))
+            for method, parameters in names.items():
+                self.assertIn(method, held, where)
+                if parameters is None:
+                    self.assertIsInstance(held[method], property)
+                else:
+                    told = list(inspect.signature(held[method]).parameters)
+                    self.assertEqual(told, ["self"] + parameters.replace(",", "").split(), (where, method))
 
 
 class Form(unittest.TestCase):
@@ -119,6 +171,55 @@ class Form(unittest.TestCase):
                 self.assertNotIsInstance(node, kinds, (name, getattr(node, "lineno", 0)))
                 if isinstance(node, ast.Constant):
                     self.assertNotIsInstance(node.value, float, name)
+
+    def test_builtins_and_methods(self):
+        own = set()
+        for _, tree in self.trees():
+            own |= {node.name for node in ast.walk(tree) if isinstance(node, ast.FunctionDef)}
+        for name, tree in self.trees():
+            for node in ast.walk(tree):
+                if isinstance(node, ast.Name) and node.id in dir(builtins):
+                    self.assertIn(node.id, BUILTINS, (name, node.lineno))
+                if isinstance(node, ast.Call) and isinstance(node.func, ast.Attribute):
+                    self.assertIn(node.func.attr, own | set(BUILTIN_METHODS) | {"__init__"}, (name, node.lineno))
+
+    def test_calls_and_comparisons(self):
+        for name, tree in self.trees():
+            for node in ast.walk(tree):
+                where = (name, getattr(node, "lineno", 0))
+                self.assertNotIsInstance(node, (ast.GeneratorExp, ast.SetComp, ast.Set, ast.Yield, ast.YieldFrom), where)
+                if isinstance(node, ast.Starred):
+                    self.assertIsInstance(node.value, ast.Name, where)
+                if isinstance(node, ast.Compare) and isinstance(node.ops[0], (ast.Is, ast.IsNot)):
+                    self.assertIn(ast.unparse(node.comparators[0]), ("None", "True", "False"), where)
+                if isinstance(node, ast.FunctionDef):
+                    self.assertIn([ast.unparse(part) for part in node.decorator_list], ([], ["property"]), where)
+
+    def test_sets_are_made_where_they_are_sorted_or_measured(self):
+        for name, tree in self.trees():
+            held = [argument for node in ast.walk(tree) if isinstance(node, ast.Call) for argument in node.args
+                    if ast.unparse(node.func) in ("len", "sorted")]
+            for node in ast.walk(tree):
+                if isinstance(node, ast.Call) and ast.unparse(node.func) == "set":
+                    self.assertIn(node, held, (name, node.lineno))
+
+    def test_views_and_ranges_are_gone_through_at_once(self):
+        for name, tree in self.trees():
+            heads = [node.iter for node in ast.walk(tree) if isinstance(node, (ast.For, ast.comprehension))]
+            inner = [node.args[0] for node in ast.walk(tree) if isinstance(node, ast.Call) and node.args
+                     and ast.unparse(node.func) in ("list", "tuple", "dict", "sorted", "sum", "enumerate", "reversed")]
+            for node in ast.walk(tree):
+                if isinstance(node, ast.Call) and ast.unparse(node.func).split(".")[-1] in (
+                        "zip", "enumerate", "reversed", "range", "items", "keys", "values"):
+                    self.assertIn(node, heads + inner, (name, node.lineno))
+
+    def test_strings(self):
+        for path in FILES:
+            for token in tokenize.generate_tokens(io.StringIO(path.read_text(encoding="ascii")).readline):
+                if token.type == tokenize.STRING:
+                    self.assertNotIn("%", token.string, (path.name, token.start))
+                    bare = token.string.replace("\\n", "").replace("\\t", "").replace("\\\\", "")
+                    self.assertNotIn("\\", bare, (path.name, token.start))
 
 
 if __name__ == "__main__":
