@@ -112,7 +112,7 @@ class Store:
     @property
     def ready(self):
         """The ascending list of the pieces that can come next."""
-        return self._now.next_pieces()
+        return ready_behind(self._now.ranks, self._now.arrived)
 
     def can_hold(self, pattern):
         """Return whether a pattern can be found after a fall that begins with the pieces that came."""
